@@ -75,6 +75,15 @@ func PutNum(n int64) string {
 	return string(out[:size+1])
 }
 
+// putNums encodes numbers one after the other.
+func putNums(nums ...int64) string {
+	var out strings.Builder
+	for _, n := range nums {
+		out.WriteString(PutNum(n))
+	}
+	return out.String()
+}
+
 // GetNum: see chapter 2.
 func GetNum(text string, at int64) NumOut {
 	if len(text) > MaxBytes {

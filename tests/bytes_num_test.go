@@ -165,10 +165,11 @@ func TestNumSizeLimit(t *testing.T) {
 // plainNum decodes with the library, which accepts encodings that are longer than necessary.
 func plainNum(text string) impl.NumOut {
 	n, size := binary.Varint([]byte(text))
-	if size == 0 {
+	// Of ten bytes that all announce another one, the library says that they end too early.
+	if size == 0 && len(text) < 10 {
 		return impl.NumOut{Code: impl.ErrShort}
 	}
-	if size < 0 || size > 1 && text[size-1] == 0 {
+	if size <= 0 || size > 1 && text[size-1] == 0 {
 		return impl.NumOut{Code: impl.ErrSyntax}
 	}
 	return impl.NumOut{N: n, At: int64(size)}
