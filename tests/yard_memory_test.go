@@ -11,7 +11,7 @@ import (
 
 // roomyYard is a copy of a yard, all slices of which, the empty ones too, have room behind their elements.
 func roomyYard(y impl.Yard) impl.Yard {
-	return impl.Yard{Config: roomyConfig(y.Config), Nodes: roomyNodes(y.Nodes), Tasks: roomyTasks(y.Tasks), Uses: roomyUses(y.Uses), Now: y.Now}
+	return impl.Yard{Config: roomyConfig(y.Config), Nodes: roomyNodes(y.Nodes), Tasks: roomyTasks(y.Tasks), Uses: withRoom(y.Uses), Now: y.Now}
 }
 
 // stretchedYard is the same yard, with all slices reaching to the end of their room.
