@@ -247,6 +247,15 @@ func Unseal(text string) TextOut {
 }
 
 func crcText(text string) string {
-	crc := Crc(text)
-	return string([]byte{byte(crc), byte(crc >> 8), byte(crc >> 16), byte(crc >> 24)})
+	return putFour(Crc(text))
+}
+
+// putFour encodes a number of at most 32 bits in four little-endian bytes.
+func putFour(n int64) string {
+	return string([]byte{byte(n), byte(n >> 8), byte(n >> 16), byte(n >> 24)})
+}
+
+// getFour decodes the first four bytes of a text that has as many.
+func getFour(text string) int64 {
+	return int64(text[0]) | int64(text[1])<<8 | int64(text[2])<<16 | int64(text[3])<<24
 }
